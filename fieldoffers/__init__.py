@@ -1,0 +1,1 @@
+"""Completers of a field over two letters, read from what they put in."""

@@ -1,0 +1,116 @@
+"""Ways, lists and values of wrong kinds that several tests use."""
+
+P = ("first", 1, "tab", "stay", "letter", 0)
+Q = ("common", 2, "always", "next", "offer", 1)
+W = ["ab", "aba", "b"]
+
+
+def way(choice="first", since=1, accept="tab", again="stay", back="letter", learn=0):
+    return (choice, since, accept, again, back, learn)
+
+
+class Odd:
+    """A value of a kind that no point speaks of."""
+
+
+class Agreeable:
+    """A value that claims to equal any other one."""
+
+    def __eq__(self, other):
+        return True
+
+    def __hash__(self):
+        return 0
+
+
+# None of these is a way, a list of words, a row, a sight, a key or a text.
+OTHER_KINDS = [
+    None, True, False, 2, -1, 10 ** 30, 1j, "first", "0", "ab ", "c", b"", b"a", b"ab",
+    (), ("ab",), ("a", "tab"), {}, {"a": "b"}, {"ab"}, frozenset(["a"]), range(2),
+    Odd(), Odd, Agreeable(), len, [[]], [["a"]], [None], [1], [True], [b"a"], [("a",)],
+    [Agreeable()], ["c"], [""],
+]
+
+WRONG_WAYS = OTHER_KINDS + [
+    0, 1, "", [], list(P), P[:5], P + (0,), P + P, (P,), [P], set(P),
+    ("", 1, "tab", "stay", "letter", 0),
+    ("First", 1, "tab", "stay", "letter", 0),
+    ("last", 1, "tab", "stay", "letter", 0),
+    (b"first", 1, "tab", "stay", "letter", 0),
+    (["first"], 1, "tab", "stay", "letter", 0),
+    (None, 1, "tab", "stay", "letter", 0),
+    (Agreeable(), 1, "tab", "stay", "letter", 0),
+    ("first", 0, "tab", "stay", "letter", 0),
+    ("first", 3, "tab", "stay", "letter", 0),
+    ("first", -1, "tab", "stay", "letter", 0),
+    ("first", True, "tab", "stay", "letter", 0),
+    ("first", 1 + 0j, "tab", "stay", "letter", 0),
+    ("first", "1", "tab", "stay", "letter", 0),
+    ("first", None, "tab", "stay", "letter", 0),
+    ("first", Agreeable(), "tab", "stay", "letter", 0),
+    ("first", 1, "end", "stay", "letter", 0),
+    ("first", 1, "", "stay", "letter", 0),
+    ("first", 1, 1, "stay", "letter", 0),
+    ("first", 1, ("tab",), "stay", "letter", 0),
+    ("first", 1, Agreeable(), "stay", "letter", 0),
+    ("first", 1, "tab", "back", "letter", 0),
+    ("first", 1, "tab", "sta", "letter", 0),
+    ("first", 1, "tab", None, "letter", 0),
+    ("first", 1, "tab", Agreeable(), "letter", 0),
+    ("first", 1, "tab", "stay", "none", 0),
+    ("first", 1, "tab", "stay", "letters", 0),
+    ("first", 1, "tab", "stay", True, 0),
+    ("first", 1, "tab", "stay", Agreeable(), 0),
+    ("first", 1, "tab", "stay", "letter", 2),
+    ("first", 1, "tab", "stay", "letter", -1),
+    ("first", 1, "tab", "stay", "letter", False),
+    ("first", 1, "tab", "stay", "letter", True),
+    ("first", 1, "tab", "stay", "letter", "0"),
+    ("first", 1, "tab", "stay", "letter", None),
+    ("first", 1, "tab", "stay", "letter", Agreeable()),
+    (1, "first", "tab", "stay", "letter", 0),
+]
+
+WRONG_LISTS = OTHER_KINDS + [
+    0, 1, "", "a", "ab", "aba", [], tuple(W), set(W), dict.fromkeys(W), [W],
+    ["a", "b", "aa", "ab"], ["a", "a"], ["ab", "b", "ab"], ["ab", ""], ["abab"],
+    ["aba", "aaaa"], ["ac"], ["a", "B"], ["A"], ["ab "], ["a\n"], ["\u0430"],
+    ["ab", True], ["ab", None], ["ab", ["b"]], ["ab", b"b"], ["ab", Agreeable()],
+]
+
+WRONG_ROWS = OTHER_KINDS + [
+    0, 1, "", "a", "tab", ("a",), ("end", "a"), {"a"}, {"tab": 1}, [["a"]],
+    ["a"] * 41, ["tab", "blank"] * 30, ["Tab"], ["A"], ["ab"], ["aa"], ["space"],
+    ["a", ""], ["a", "tab "], ["a", True], ["a", None], ["a", 0], ["a", b"b"],
+    ["a", ("b",)], ["a", Agreeable()],
+]
+
+WRONG_SIGHTS = OTHER_KINDS + [
+    3, "", "1", "a", [], [0], [1], (0,), {0}, {1: 1}, 0j, 1 + 0j,
+]
+
+
+def wrong_states(words):
+    """Values that are not of the form of a state for a list of words."""
+    order = tuple(words)
+    return OTHER_KINDS + [
+        0, 1, "", "a", [], ["", "", 0, order, ""], ("", "", 0, order),
+        ("", "", 0, order, "", ""), (("", "", 0, order, ""),),
+        ("aaaaa", "", 0, order, ""), ("c", "", 0, order, ""), (None, "", 0, order, ""),
+        (0, "", 0, order, ""), ([], "", 0, order, ""), (b"", "", 0, order, ""),
+        (Agreeable(), "", 0, order, ""),
+        ("", "babab", 0, order, ""), ("", "A", 0, order, ""), ("", None, 0, order, ""),
+        ("", ["a"], 0, order, ""), ("", Agreeable(), 0, order, ""),
+        ("", "", 2, order, ""), ("", "", -1, order, ""), ("", "", True, order, ""),
+        ("", "", False, order, ""), ("", "", "0", order, ""), ("", "", None, order, ""),
+        ("", "", [0], order, ""), ("", "", 0j, order, ""), ("", "", Agreeable(), order, ""),
+        ("", "", 0, list(words), ""), ("", "", 0, (), ""), ("", "", 0, order[1:], ""),
+        ("", "", 0, order + order[:1], ""), ("", "", 0, order + ("bbb",), ""),
+        ("", "", 0, order[1:] + ("bbb",), ""), ("", "", 0, order[:1] * len(order) + ("",), ""),
+        ("", "", 0, order[1:] + (None,), ""), ("", "", 0, order[1:] + ([],), ""),
+        ("", "", 0, order[1:] + (1,), ""), ("", "", 0, None, ""), ("", "", 0, words[0], ""),
+        ("", "", 0, order[1:] + (Agreeable(),), ""), ("", "", 0, Agreeable(), ""),
+        ("", "", 0, order, "aaaaa"), ("", "", 0, order, "c"), ("", "", 0, order, None),
+        ("", "", 0, order, ("a",)), ("", "", 0, order, False),
+        ("", "", 0, order, Agreeable()),
+    ]

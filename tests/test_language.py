@@ -1,0 +1,93 @@
+"""The rules of the language that can be read off the files, and the interface's names."""
+
+import ast
+import inspect
+import unittest
+from importlib import import_module
+from pathlib import Path
+
+PACKAGE = Path(__file__).resolve().parent.parent / "fieldoffers"
+
+INTERFACE = {
+    "ways": {"is_way": 1, "all_ways": 0},
+    "words": {"is_text": 1, "is_list": 1, "all_texts": 0, "small_lists": 0},
+    "keys": {"is_key": 1, "is_row": 1, "all_keys": 0},
+    "running": {"views_of": 4, "states_along": 3, "state_after": 3, "put_in": 3},
+    "reaching": {"count_states": 2, "row_to": 3, "idle_keys": 3},
+}
+
+LIBRARY = {"heapq", "math", "itertools", "collections"}
+
+
+def files():
+    return sorted(PACKAGE.glob("*.py"))
+
+
+def imported(tree):
+    """Give the modules that a file imports from; fail on any other import."""
+    found = []
+    for node in ast.walk(tree):
+        if isinstance(node, ast.Import):
+            raise AssertionError(f"line {node.lineno}: a module is imported as a name")
+        if isinstance(node, ast.ImportFrom):
+            if node.level != 0 or any(name.name == "*" for name in node.names):
+                raise AssertionError(f"line {node.lineno}: no full names")
+            found.append(node.module)
+    return found
+
+
+class Interface(unittest.TestCase):
+    def test_functions_stand_in_their_files(self):
+        for name, functions in INTERFACE.items():
+            module = import_module(f"fieldoffers.{name}")
+            for function, many in functions.items():
+                with self.subTest(module=name, function=function):
+                    value = getattr(module, function)
+                    self.assertEqual(value.__module__, f"fieldoffers.{name}")
+                    self.assertEqual(len(inspect.signature(value).parameters), many)
+
+
+class Language(unittest.TestCase):
+    def test_only_python_files(self):
+        names = [path.name for path in PACKAGE.iterdir() if path.name != "__pycache__"]
+        self.assertEqual(sorted(names), [path.name for path in files()])
+        self.assertIn("__init__.py", names)
+
+    def test_sizes_and_signs(self):
+        for path in files():
+            text = path.read_text(encoding="utf-8")
+            lines = text.split("\n")
+            with self.subTest(file=path.name):
+                self.assertTrue(all(sign == "\n" or " " <= sign <= "~" for sign in text))
+                self.assertLess(len(lines), 400)
+                self.assertLessEqual(max(len(line) for line in lines), 120)
+
+    def test_functions_of_at_most_40_lines(self):
+        for path in files():
+            for node in ast.walk(ast.parse(path.read_text(encoding="utf-8"))):
+                if isinstance(node, ast.FunctionDef):
+                    with self.subTest(file=path.name, function=node.name):
+                        self.assertLessEqual(node.end_lineno - node.lineno + 1, 40)
+
+    def test_imports(self):
+        graph = {}
+        for path in files():
+            modules = imported(ast.parse(path.read_text(encoding="utf-8")))
+            graph[f"fieldoffers.{path.stem}"] = [m for m in modules if m not in LIBRARY]
+        done = []
+        while len(done) < len(graph):
+            ready = [m for m in graph if m not in done and all(n in done for n in graph[m])]
+            self.assertTrue(ready, "files import from each other, or from outside")
+            done.extend(ready)
+
+    def test_no_floats_and_no_state_of_modules(self):
+        for path in files():
+            for node in ast.walk(ast.parse(path.read_text(encoding="utf-8"))):
+                with self.subTest(file=path.name, line=getattr(node, "lineno", 0)):
+                    self.assertNotIsInstance(node, (ast.AsyncFunctionDef, ast.Global, ast.Div))
+                    self.assertFalse(
+                        isinstance(node, ast.Constant) and isinstance(node.value, (float, complex)))
+
+
+if __name__ == "__main__":
+    unittest.main()
