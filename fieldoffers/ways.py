@@ -8,6 +8,7 @@ ACCEPTS = ("tab", "blank", "always")
 AGAINS = ("next", "stay")
 BACKS = ("offer", "letter", "both")
 LEARNS = (0, 1)
+FAMILY_WAYS = 8
 
 
 def is_integer_among(value, numbers):
@@ -53,3 +54,16 @@ def check_way(way):
     """Raise BadWay if a value is not a way."""
     if not is_way(way):
         raise BadWay("a way is a tuple (choice, since, accept, again, back, learn)")
+
+
+def is_family(value):
+    """Tell whether a value is a family: a list of 1 to 8 ways."""
+    if not isinstance(value, list) or not 1 <= len(value) <= FAMILY_WAYS:
+        return False
+    return all([is_way(way) for way in value])
+
+
+def check_family(family):
+    """Raise BadWay if a value is not a family."""
+    if not is_family(family):
+        raise BadWay("a family is a list of 1 to 8 ways")

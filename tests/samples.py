@@ -23,13 +23,17 @@ class Agreeable:
         return 0
 
 
-# None of these is a way, a list of words, a row, a sight, a key or a text.
-OTHER_KINDS = [
+# None of these is a way, a list of words, a row, a sight, a key or a text, nor
+# one of the other things that the functions take.
+ODD_KINDS = [
     None, True, False, 2, -1, 10 ** 30, 1j, "first", "0", "ab ", "c", b"", b"a", b"ab",
     (), ("ab",), ("a", "tab"), {}, {"a": "b"}, {"ab"}, frozenset(["a"]), range(2),
     Odd(), Odd, Agreeable(), len, [[]], [["a"]], [None], [1], [True], [b"a"], [("a",)],
-    [Agreeable()], ["c"], [""],
+    [Agreeable()], ["c"],
 ]
+
+# A list of the empty text is a view row of the sight 1, but nothing else.
+OTHER_KINDS = ODD_KINDS + [[""]]
 
 WRONG_WAYS = OTHER_KINDS + [
     0, 1, "", [], list(P), P[:5], P + (0,), P + P, (P,), [P], set(P),
@@ -113,4 +117,65 @@ def wrong_states(words):
         ("", "", 0, order, "aaaaa"), ("", "", 0, order, "c"), ("", "", 0, order, None),
         ("", "", 0, order, ("a",)), ("", "", 0, order, False),
         ("", "", 0, order, Agreeable()),
+    ]
+
+
+WRONG_FAMILIES = OTHER_KINDS + [
+    0, 1, "", [], P, (P,), (P, Q), [P] * 9, [P, Q] * 5, [P, None], [None, P], [P, list(P)],
+    [P, P[:5]], [P, P + (0,)], [[P]], [P, [Q]], [P, True], [P, "first"], {P}, {P: 1}, {0: P},
+    [P, ("first", True, "tab", "stay", "letter", 0)],
+    [P, ("first", 1, "tab", "stay", "letter", False)],
+    [P, Agreeable()], list(P),
+]
+
+A_VIEW = {0: ("a", "b", ""), 1: ""}
+
+# For each sight, values that are none of its views; those of the other sight are.
+NO_VIEWS = {
+    0: [
+        "", "a", "abab", None, True, 0, 1, [], (), ["a", "b", ""], ("a", "b"),
+        ("a", "b", "", ""), (("a", "b", ""),), ("aaaaa", "", ""), ("", "bbbbb", ""),
+        ("", "", "ababa"), ("c", "", ""), ("", "A", ""), ("", "", "a "), (None, "", ""),
+        ("", None, ""), ("", "", None), (True, "", ""), ("", False, ""), ("", "", 0),
+        (1, 2, 3), (b"a", b"b", b""), ([], "", ""), (("a",), "", ""), {"a"}, {}, b"",
+        Agreeable(), (Agreeable(), "b", ""), ("a", "b", Agreeable()),
+    ],
+    1: [
+        ("a", "b", ""), ("", "", ""), ("a",), (), None, True, False, 0, 1, "aaaaa", "ababab",
+        "c", "A", "a ", " ", "\n", b"", b"a", [], ["a"], {"a"}, {}, Agreeable(),
+    ],
+}
+
+
+def wrong_views(sight):
+    """Values that are no view rows of a sight."""
+    view = A_VIEW[sight]
+    mixed = [[view, value] for value in NO_VIEWS[sight]]
+    return ODD_KINDS + mixed + [[value] for value in NO_VIEWS[sight]] + [
+        0, 1, "", "a", "abab", (view,), (view, view), {view}, {view: 1}, [view] * 41,
+        [view] * 100, [[view]], [[]], Agreeable(), [A_VIEW[1 - sight]],
+    ]
+
+
+def wrong_records(sight):
+    """Values that are no records of a sight."""
+    view = A_VIEW[sight]
+    rows = [(row, [view]) for row in WRONG_ROWS]
+    views = [(["a"], value) for value in wrong_views(sight)]
+    return OTHER_KINDS + rows + views + [
+        0, 1, "", [], [["a"], [view]], (["a"],), (["a"], [view], []), ([view], ["a"]),
+        (["a"], []), ([], [view]), (["a", "b"], [view]), (["a"], [view] * 2),
+        (["a"] * 41, [view] * 41), (["a"] * 40, [view] * 39), (["a"] * 39, [view] * 40),
+        ((["a"], [view]),), Agreeable(), (Agreeable(), Agreeable()), {"a": view},
+    ]
+
+
+def wrong_record_lists(sight):
+    """Values that are no lists of 1 to 12 records of a sight."""
+    record = (["a"], [A_VIEW[sight]])
+    alone = [[value] for value in wrong_records(sight)]
+    last = [[record, value] for value in wrong_records(sight)]
+    return OTHER_KINDS + alone + last + [
+        0, 1, "", [], record, (record,), [record] * 13, [record] * 30, [[record]],
+        [([], [])] * 13, {0: record}, Agreeable(),
     ]

@@ -3,15 +3,24 @@
 import unittest
 from copy import deepcopy
 
-from fieldoffers.errors import BadKeys, BadNumber, BadViews, BadWay, BadWords, FieldError
+from fieldoffers.errors import (
+    BadKeys, BadNumber, BadViews, BadWay, BadWords, FieldError, NotFound,
+)
 from fieldoffers.reaching import count_states, idle_keys, row_to
+from fieldoffers.reading import bars, first_bar, made, remains
 from fieldoffers.running import put_in, state_after, states_along, views_of
+from fieldoffers.seeing import can_show, count_rows, first_row, showers, states_behind
+from fieldoffers.spoken import is_within, spoken_classes, telling_views
+from fieldoffers.telling import classes, least_list, same, telling_row, telling_table
 from tests.samples import (
-    P, Q, W, WRONG_LISTS, WRONG_ROWS, WRONG_SIGHTS, WRONG_WAYS, wrong_states,
+    P, Q, W, WRONG_FAMILIES, WRONG_LISTS, WRONG_ROWS, WRONG_SIGHTS, WRONG_WAYS,
+    wrong_record_lists, wrong_records, wrong_states, wrong_views,
 )
 
 ROW = ["a", "tab", "end", "b", "blank"]
 STATE = ("ab", "a", 1, ("ab", "aba", "b"), "")
+VIEWS = [("a", "b", ""), ("ab", "", "")]
+RECORD = (["a", "tab"], VIEWS)
 
 # For each kind of argument: a valid value, values that are not valid, its exception.
 KINDS = {
@@ -20,6 +29,25 @@ KINDS = {
     "sight": (0, WRONG_SIGHTS, BadNumber),
     "row": (ROW, WRONG_ROWS, BadKeys),
     "state": (STATE, wrong_states(W), BadViews),
+    "other": (Q, WRONG_WAYS, BadWay),
+    "family": ([P, Q, P], WRONG_FAMILIES, BadWay),
+    "few words": (W[:2], WRONG_LISTS, BadWords),
+    "views": (VIEWS, wrong_views(0), BadViews),
+    "record": (RECORD, wrong_records(0), BadViews),
+    "records": ([RECORD, ([], [])], wrong_record_lists(0), BadViews),
+}
+
+# The valid values of the kinds that a sight decides, in the sight 1.
+VALID_IN_SIGHT_1 = {
+    "sight": 1,
+    "views": ["", "ab"],
+    "record": (["a", "b"], ["", ""]),
+    "records": [(["a", "b"], ["", ""])],
+}
+WRONG_IN_SIGHT_1 = {
+    "views": wrong_views(1),
+    "record": wrong_records(1),
+    "records": wrong_record_lists(1),
 }
 
 FUNCTIONS = [
@@ -30,6 +58,23 @@ FUNCTIONS = [
     (count_states, ["way", "words"]),
     (row_to, ["way", "words", "state"]),
     (idle_keys, ["way", "words", "state"]),
+    (first_bar, ["way", "words", "sight", "record"]),
+    (made, ["way", "words", "sight", "record"]),
+    (remains, ["family", "words", "sight", "records"]),
+    (bars, ["family", "words", "sight", "records"]),
+    (can_show, ["way", "words", "sight", "views"]),
+    (showers, ["family", "words", "sight", "views"]),
+    (first_row, ["way", "words", "sight", "views"]),
+    (states_behind, ["way", "words", "sight", "views"]),
+    (count_rows, ["way", "words", "sight", "views"]),
+    (same, ["way", "other", "words", "sight"]),
+    (telling_row, ["way", "other", "words", "sight"]),
+    (least_list, ["way", "other", "sight"]),
+    (classes, ["family", "words", "sight"]),
+    (telling_table, ["family", "words", "sight"]),
+    (is_within, ["way", "other", "few words", "sight"]),
+    (telling_views, ["way", "other", "few words", "sight"]),
+    (spoken_classes, ["family", "few words", "sight"]),
 ]
 
 
@@ -54,6 +99,56 @@ class WrongArguments(unittest.TestCase):
                     arguments[at] = value
                     with self.subTest(function=function.__name__, kind=kind, value=value):
                         self.assertIs(self.raised(function, arguments), KINDS[kind][2])
+
+    def test_in_the_sight_1(self):
+        for function, kinds in FUNCTIONS:
+            for at, kind in enumerate(kinds):
+                for value in WRONG_IN_SIGHT_1.get(kind, []):
+                    arguments = [VALID_IN_SIGHT_1.get(k, KINDS[k][0]) for k in kinds]
+                    arguments[at] = value
+                    with self.subTest(function=function.__name__, kind=kind, value=value):
+                        self.assertIs(self.raised(function, arguments), BadViews)
+
+    def test_views_of_the_other_sight(self):
+        for function, kinds in FUNCTIONS:
+            for kind in WRONG_IN_SIGHT_1:
+                if kind in kinds:
+                    arguments = valid(kinds)
+                    arguments[kinds.index("sight")] = 1
+                    with self.subTest(function=function.__name__):
+                        self.assertIs(self.raised(function, arguments), BadViews)
+                    arguments = [VALID_IN_SIGHT_1.get(k, KINDS[k][0]) for k in kinds]
+                    arguments[kinds.index("sight")] = 0
+                    with self.subTest(function=function.__name__):
+                        self.assertIs(self.raised(function, arguments), BadViews)
+
+    def test_edges_that_are_valid(self):
+        full = (["tab"] * 40, [("", "", "")] * 40)
+        for function, kinds in FUNCTIONS:
+            for kind, values in [
+                ("family", [[P], [P] * 8, [P, Q] * 4]),
+                ("views", [[], [("", "", "")] * 40]),
+                ("record", [([], []), full]),
+                ("records", [[full], [([], [])] * 12, [full] * 12]),
+            ]:
+                for value in values if kind in kinds else []:
+                    arguments = valid(kinds)
+                    arguments[kinds.index(kind)] = value
+                    with self.subTest(function=function.__name__, kind=kind, value=value):
+                        self.assertIsNone(self.raised(function, arguments))
+
+    def test_three_words_come_behind_what_is_not_valid(self):
+        for function, kinds in FUNCTIONS:
+            if "few words" in kinds:
+                arguments = valid(kinds)
+                arguments[kinds.index("few words")] = W
+                with self.subTest(function=function.__name__):
+                    self.assertIs(self.raised(function, arguments), NotFound)
+                for at, kind in enumerate(kinds):
+                    wrong = list(arguments)
+                    wrong[at] = None
+                    with self.subTest(function=function.__name__, kind=kind):
+                        self.assertIs(self.raised(function, wrong), KINDS[kind][2])
 
     def test_of_several_the_first(self):
         for function, kinds in FUNCTIONS:
@@ -102,11 +197,15 @@ class KeptArguments(unittest.TestCase):
         for function, kinds in FUNCTIONS:
             for one in [P, Q]:
                 arguments = valid(kinds)
-                arguments[0] = one
+                arguments[0] = one if kinds[0] == "way" else [one, P, Q]
                 if "state" in kinds:
                     arguments[2] = ("ab", "", 0, ("ab", "aba", "b"), "")
                 before = deepcopy(arguments)
-                function(*arguments)
+                try:
+                    function(*arguments)
+                except NotFound:
+                    # With the way Q, which does not show what the way P shows.
+                    self.assertIn(function, [first_row, telling_row, telling_views])
                 with self.subTest(function=function.__name__, way=one):
                     self.assertEqual(arguments, before)
 
@@ -125,14 +224,30 @@ class KeptArguments(unittest.TestCase):
         calls = [
             (views_of, [P, W, 0, ROW]), (views_of, [P, W, 1, ROW]), (put_in, [P, W, ROW]),
             (states_along, [P, W, ROW]), (row_to, [P, W, STATE]), (idle_keys, [P, W, STATE]),
+            (remains, [[P, Q, P], W, 0, [RECORD]]), (bars, [[P, Q], W, 0, [RECORD]]),
+            (showers, [[P, Q, P], W, 0, VIEWS]), (first_row, [P, W, 0, VIEWS]),
+            (first_row, [P, W, 0, []]), (states_behind, [P, W, 0, VIEWS]),
+            (telling_row, [P, Q, W, 0]), (least_list, [P, Q, 0]),
+            (classes, [[P, Q, P], W, 0]), (telling_table, [[P, Q, P], W, 0]),
+            (spoken_classes, [[P, Q, P], W[:2], 0]),
         ]
         for function, arguments in calls:
             before = function(*arguments)
-            kept = list(before)
+            kept = deepcopy(before)
+            for inner in before:
+                if isinstance(inner, list):
+                    inner.clear()
+                    inner.append("c")
             before.clear()
             before.append("c")
             with self.subTest(function=function.__name__):
                 self.assertEqual(function(*arguments), kept)
+
+    def test_the_returned_view_row_is_new(self):
+        before = telling_views(P, Q, W[:2], 0)
+        kept = deepcopy(before)
+        before[0].append("c")
+        self.assertEqual(telling_views(P, Q, W[:2], 0), kept)
 
     def test_lists_that_are_changed_behind_a_call(self):
         words = list(W)

@@ -14,6 +14,14 @@ INTERFACE = {
     "keys": {"is_key": 1, "is_row": 1, "all_keys": 0},
     "running": {"views_of": 4, "states_along": 3, "state_after": 3, "put_in": 3},
     "reaching": {"count_states": 2, "row_to": 3, "idle_keys": 3},
+    "reading": {"first_bar": 4, "made": 4, "remains": 4, "bars": 4},
+    "seeing": {
+        "can_show": 4, "showers": 4, "first_row": 4, "states_behind": 4, "count_rows": 4,
+    },
+    "telling": {
+        "same": 4, "telling_row": 4, "least_list": 3, "classes": 3, "telling_table": 3,
+    },
+    "spoken": {"is_within": 4, "telling_views": 4, "spoken_classes": 3},
 }
 
 LIBRARY = {"heapq", "math", "itertools", "collections"}
