@@ -31,11 +31,10 @@ def common_beginning(texts):
     return common
 
 
-def offer_of(way, state):
-    """Return the offer in a state, "" if there is none."""
+def open_offer(way, text, order):
+    """Return the offer behind a text if nothing keeps it quiet, "" if there is none."""
     choice, since, accept, again, back, learn = way
-    text, begun, quiet, order, put = state
-    if quiet == 1 or len(text) < since:
+    if len(text) < since:
         return ""
     rests = [word[len(text):] for word in fitting_words(text, order)]
     if len(rests) == 0:
@@ -46,6 +45,14 @@ def offer_of(way, state):
         # Of several shortest rests, min returns the first.
         return min(rests, key=len)
     return rests[0]
+
+
+def offer_of(way, state):
+    """Return the offer in a state, "" if there is none."""
+    text, begun, quiet, order, put = state
+    if quiet == 1:
+        return ""
+    return open_offer(way, text, order)
 
 
 def press_letter(state, letter):
@@ -63,11 +70,10 @@ def word_behind(text, words):
     return words[words.index(text) + 1]
 
 
-def press_tab(way, state):
+def press_tab(way, state, offer):
     """Return the state behind the key tab."""
     choice, since, accept, again, back, learn = way
     text, begun, quiet, order, put = state
-    offer = offer_of(way, state)
     if offer != "":
         return (text + offer, text, 1, order, "")
     if again == "next" and begun != "":
@@ -81,22 +87,22 @@ def with_first(word, order):
     return (word, *others)
 
 
-def press_putting(way, state, key):
+def press_putting(way, state, offer, key):
     """Return the state behind blank or end, the keys that put a text in."""
     choice, since, accept, again, back, learn = way
     text, begun, quiet, order, put = state
     if accept == "always" or (accept == "blank" and key == "blank"):
-        text = text + offer_of(way, state)
+        text = text + offer
     if learn == 1 and text in order:
         order = with_first(text, order)
     return ("", "", 0, order, text)
 
 
-def press_back(way, state):
+def press_back(way, state, offer):
     """Return the state behind the key back."""
     choice, since, accept, again, back, learn = way
     text, begun, quiet, order, put = state
-    if back != "offer" or offer_of(way, state) == "":
+    if back != "offer" or offer == "":
         text = text[:-1]
     if back == "letter" or text == "":
         return (text, "", 0, order, "")
@@ -107,11 +113,12 @@ def press(way, state, key):
     """Return the state behind a key."""
     if key in LETTERS:
         return press_letter(state, key)
+    offer = offer_of(way, state)
     if key == "tab":
-        return press_tab(way, state)
+        return press_tab(way, state, offer)
     if key == "back":
-        return press_back(way, state)
-    return press_putting(way, state, key)
+        return press_back(way, state, offer)
+    return press_putting(way, state, offer, key)
 
 
 def walk(way, state, row):

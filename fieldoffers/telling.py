@@ -1,60 +1,43 @@
 """Two ways told apart by the first row of keys that does it, or found alike."""
 
 from fieldoffers.checks import check_pair, check_several
+from fieldoffers.cores import Cores, cores_by_way
 from fieldoffers.errors import NotFound
 from fieldoffers.grouping import grouped
-from fieldoffers.keys import KEYS
-from fieldoffers.states import check_sight, first_state
-from fieldoffers.steppers import Stepper
+from fieldoffers.rows import first_row_to_end
+from fieldoffers.states import check_sight
 from fieldoffers.ways import check_way
 from fieldoffers.words import small_lists
 
 
-def parting_key(mine, its, pair):
-    """Return the first key behind which two steppers show unlike views, or None."""
-    state, twin = pair
-    for key, step, twin_step in zip(KEYS, mine.steps(state), its.steps(twin)):
-        if step[1] != twin_step[1]:
-            return key
-    return None
+def starts_of(mine, its, words):
+    """Return the pair of the cores in which two ways begin."""
+    return (mine.start(words), its.start(words))
 
 
 def pairs_behind(mine, its, pair):
-    """Return the list of the pairs of states that the keys, in order, lead to."""
-    state, twin = pair
+    """Return, for the keys in order, the pairs behind them, or True for unlike views."""
     return [
-        (step[0], twin_step[0])
-        for step, twin_step in zip(mine.steps(state), its.steps(twin))
+        True if step[1] != twin_step[1] else (step[0], twin_step[0])
+        for step, twin_step in zip(mine.steps(pair[0]), its.steps(pair[1]))
     ]
 
 
-def first_telling_row(mine, its, words):
-    """Return the first of the shortest rows that tells two steppers apart, or None.
+def first_row_from(mine, its, start):
+    """Return the first of the shortest rows that tells two ways apart from a pair, or None."""
+    if mine.way == its.way and start[0] == start[1]:
+        return None
+    return first_row_to_end(start, lambda pair: pairs_behind(mine, its, pair))
 
-    Pairs of states come in the order of their rows, and the keys in theirs: so
-    the first pair and key at which unlike views are seen give the first row.
-    There are only so many pairs: so rows of any length are looked at.
-    """
-    start = (first_state(words), first_state(words))
-    rows = {start: []}
-    newest = [start]
-    while len(newest) > 0:
-        found = []
-        for pair in newest:
-            key = parting_key(mine, its, pair)
-            if key is not None:
-                return [*rows[pair], key]
-            for key, behind in zip(KEYS, pairs_behind(mine, its, pair)):
-                if behind not in rows:
-                    rows[behind] = [*rows[pair], key]
-                    found.append(behind)
-        newest = found
-    return None
+
+def first_telling_row(mine, its, words):
+    """Return the first of the shortest rows that tells two ways apart, or None."""
+    return first_row_from(mine, its, starts_of(mine, its, words))
 
 
 def row_between(one, other, words, sight):
     """Return the first of the shortest rows that tells two ways apart, or None."""
-    return first_telling_row(Stepper(one, sight), Stepper(other, sight), words)
+    return first_telling_row(Cores(one, sight), Cores(other, sight), words)
 
 
 def same(one, other, words, sight):
@@ -77,24 +60,33 @@ def least_list(one, other, sight):
     check_way(one)
     check_way(other)
     check_sight(sight)
+    mine = Cores(one, sight)
+    its = Cores(other, sight)
+    alike = {}
     for words in small_lists():
-        if row_between(one, other, words, sight) is not None:
-            return words
+        start = starts_of(mine, its, words)
+        # No way knows one letter from the other: with "a" and "b" swapped, a list
+        # that begins with "b" is one that came before, and was found alike.
+        if not words[0].startswith("b") and start not in alike:
+            if first_row_from(mine, its, start) is not None:
+                return words
+            alike[start] = True
     return None
 
 
 def classes(family, words, sight):
     """Return the ascending list of the groups of places of ways that are alike."""
     check_several(family, words, sight)
-    steppers = [Stepper(way, sight) for way in family]
+    cores = cores_by_way(family, sight)
     return grouped(
         len(family),
-        lambda one, other: first_telling_row(steppers[one], steppers[other], words) is None,
+        lambda one, other: first_telling_row(
+            cores[family[one]], cores[family[other]], words) is None,
     )
 
 
-def row_length(mine, its, words):
-    """Return the length of the shortest rows that tell two steppers apart, or None."""
+def length_between(mine, its, words):
+    """Return the length of the shortest rows that tell two ways apart, or None."""
     row = first_telling_row(mine, its, words)
     if row is None:
         return None
@@ -104,5 +96,13 @@ def row_length(mine, its, words):
 def telling_table(family, words, sight):
     """Return, for each two places, the length of the shortest telling rows, or None."""
     check_several(family, words, sight)
-    steppers = [Stepper(way, sight) for way in family]
-    return [[row_length(mine, its, words) for its in steppers] for mine in steppers]
+    cores = cores_by_way(family, sight)
+    ways = list(cores)
+    lengths = {}
+    for many, one in enumerate(ways):
+        for other in ways[:many]:
+            length = length_between(cores[one], cores[other], words)
+            lengths[(one, other)] = length
+            lengths[(other, one)] = length
+    # A way with itself has no length there: get tells None of it.
+    return [[lengths.get((one, other)) for other in family] for one in family]

@@ -174,6 +174,18 @@ class LeastList(unittest.TestCase):
                     with self.subTest(one=one, other=other, sight=sight, words=ahead):
                         self.assertIsNone(length_to_tell(one, other, ahead, sight))
 
+    def test_the_first_of_all_lists(self):
+        pairs = list(combinations(DRAWN, 2))[::4] + [
+            (way("first"), way("short", learn=1)), (way(learn=1), way("short", learn=1)),
+            (way("common", 2, back="offer"), way("common", 2, back="both")),
+            (way("common", again="next"), way("common", again="next", learn=1)),
+            (way("common", accept="always"), way("common", accept="always", learn=1)),
+        ]
+        for one, other in pairs:
+            for sight in [0, 1]:
+                unlike = (words for words in small_lists() if not same(one, other, words, sight))
+                self.check(one, other, sight, next(unlike, None))
+
     def test_the_list_is_new(self):
         least_list(P, Q, 0).append("b")
         self.assertEqual(least_list(P, Q, 0), ["aa"])
