@@ -11,10 +11,14 @@ LEARNS = (0, 1)
 FAMILY_WAYS = 8
 
 
+def is_integer(value):
+    """Tell whether a value is an integer: True and False are not accepted as such."""
+    return isinstance(value, int) and not isinstance(value, bool)
+
+
 def is_integer_among(value, numbers):
     """Tell whether a value is an integer that stands among some numbers."""
-    # True equals 1 and False equals 0, but neither is accepted as an integer.
-    return isinstance(value, int) and not isinstance(value, bool) and value in numbers
+    return is_integer(value) and value in numbers
 
 
 def is_string_among(value, strings):

@@ -54,3 +54,9 @@ def check_list(words):
     """Raise BadWords if a value is not a list of 1 to 3 unlike words."""
     if not is_list(words):
         raise BadWords("a list of words holds 1 to 3 unlike words of 1 to 3 letters")
+
+
+def check_wanted(wanted):
+    """Raise BadWords if a value is not a text of 1 to 4 letters."""
+    if not is_text(wanted) or wanted == "":
+        raise BadWords("a text that is wanted has 1 to 4 letters")

@@ -179,3 +179,31 @@ def wrong_record_lists(sight):
         0, 1, "", [], record, (record,), [record] * 13, [record] * 30, [[record]],
         [([], [])] * 13, {0: record}, Agreeable(),
     ]
+
+
+# No texts of 1 to 4 letters.
+WRONG_WANTED = OTHER_KINDS + [
+    "", "aaaaa", "babab", "aaaaaa", "A", "a ", " a", "a\n", "abc", "\u0430", 0, 1, ["a"], ("a",),
+    b"a", {"a"}, {"a": 1}, [], Agreeable(),
+]
+
+WRONG_LENGTHS = [value for value in OTHER_KINDS if value != 2 or isinstance(value, Agreeable)] + [
+    41, 42, 100, -2, -40, "", "1", "40", [], [1], (1,), {1}, {1: 1}, 0j, 1 + 0j, b"1",
+]
+
+NO_KEYS = OTHER_KINDS + [
+    "", "ab", "Tab", "A", "enter", "a ", 0, 1, ["a"], ("a",), {"a"}, {"a": 1}, b"a", [],
+    Agreeable(), ["tab"], ("end",),
+]
+
+# Neither "blank" nor "end".
+NO_ENDING_KEYS = OTHER_KINDS + [
+    "a", "b", "tab", "back", "", "Blank", "END", "blank ", " end", "ends", "blan", "c",
+    0, 1, ["blank"], ["end"], ("end",), ("blank",), {"blank"}, {"end": 1}, b"blank", b"end",
+    [], Agreeable(),
+]
+
+NO_STRINGS = [value for value in OTHER_KINDS if not isinstance(value, str)] + [
+    [], ["a"], list("ab"), list(P), P, ("ab",), b"ab", b"a,tab", b"first 1 tab stay letter 0", 0, 1,
+    {"ab"}, {"ab": 1}, Agreeable(), W,
+]

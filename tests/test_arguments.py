@@ -3,18 +3,31 @@
 import unittest
 from copy import deepcopy
 
+from fieldoffers.choosing import best_key, count_same
+from fieldoffers.desks import Desk
 from fieldoffers.errors import (
-    BadKeys, BadNumber, BadViews, BadWay, BadWords, FieldError, NotFound,
+    BadKeys, BadNumber, BadText, BadViews, BadWay, BadWords, FieldError, NotFound,
 )
+from fieldoffers.finding import finding_plan, groups, keys_needed, parting_row
+from fieldoffers.keys import all_keys
+from fieldoffers.kinds import alike_groups, count_kinds
+from fieldoffers.meaning import first_wrong, typed, wrongs
+from fieldoffers.putting import costs, never_put, row_for, saved
 from fieldoffers.reaching import count_states, idle_keys, row_to
 from fieldoffers.reading import bars, first_bar, made, remains
 from fieldoffers.running import put_in, state_after, states_along, views_of
 from fieldoffers.seeing import can_show, count_rows, first_row, showers, states_behind
 from fieldoffers.spoken import is_within, spoken_classes, telling_views
 from fieldoffers.telling import classes, least_list, same, telling_row, telling_table
+from fieldoffers.texts import (
+    format_list, format_row, format_way, parse_list, parse_row, parse_way,
+)
+from fieldoffers.ways import all_ways
+from fieldoffers.words import all_texts, small_lists
 from tests.samples import (
-    P, Q, W, WRONG_FAMILIES, WRONG_LISTS, WRONG_ROWS, WRONG_SIGHTS, WRONG_WAYS,
-    wrong_record_lists, wrong_records, wrong_states, wrong_views,
+    NO_ENDING_KEYS, NO_STRINGS, P, Q, W, WRONG_FAMILIES, WRONG_LENGTHS, WRONG_LISTS, WRONG_ROWS,
+    WRONG_SIGHTS, WRONG_WANTED, WRONG_WAYS, way, wrong_record_lists, wrong_records, wrong_states,
+    wrong_views,
 )
 
 ROW = ["a", "tab", "end", "b", "blank"]
@@ -31,10 +44,17 @@ KINDS = {
     "state": (STATE, wrong_states(W), BadViews),
     "other": (Q, WRONG_WAYS, BadWay),
     "family": ([P, Q, P], WRONG_FAMILIES, BadWay),
+    "few ways": ([P, Q, P], WRONG_FAMILIES, BadWay),
     "few words": (W[:2], WRONG_LISTS, BadWords),
     "views": (VIEWS, wrong_views(0), BadViews),
     "record": (RECORD, wrong_records(0), BadViews),
     "records": ([RECORD, ([], [])], wrong_record_lists(0), BadViews),
+    "wanted": ("aba", WRONG_WANTED, BadWords),
+    "length": (2, WRONG_LENGTHS, BadNumber),
+    "ending key": ("end", NO_ENDING_KEYS, BadKeys),
+    "way's text": ("first 1 tab stay letter 0", NO_STRINGS + ["", "ab"], BadText),
+    "row's text": ("a,tab", NO_STRINGS + ["ab", " "], BadText),
+    "list's text": ("ab b", NO_STRINGS + ["", "a,b"], BadText),
 }
 
 # The valid values of the kinds that a sight decides, in the sight 1.
@@ -75,6 +95,28 @@ FUNCTIONS = [
     (is_within, ["way", "other", "few words", "sight"]),
     (telling_views, ["way", "other", "few words", "sight"]),
     (spoken_classes, ["family", "few words", "sight"]),
+    (keys_needed, ["few ways", "few words", "sight"]),
+    (finding_plan, ["few ways", "few words", "sight"]),
+    (parting_row, ["few ways", "few words", "sight"]),
+    (groups, ["family", "words", "sight", "row"]),
+    (best_key, ["family", "words", "sight", "record"]),
+    (count_same, ["way", "other", "words", "sight", "length"]),
+    (alike_groups, ["way", "words", "sight"]),
+    (count_kinds, ["way", "words", "sight"]),
+    (row_for, ["way", "words", "row", "wanted"]),
+    (never_put, ["way", "words"]),
+    (saved, ["way", "words"]),
+    (costs, ["way", "words", "wanted"]),
+    (typed, ["way", "words", "wanted", "ending key"]),
+    (wrongs, ["way", "words", "ending key"]),
+    (first_wrong, ["way", "words", "ending key"]),
+    (Desk, ["way", "words", "sight"]),
+    (format_way, ["way"]),
+    (format_row, ["row"]),
+    (format_list, ["words"]),
+    (parse_way, ["way's text"]),
+    (parse_row, ["row's text"]),
+    (parse_list, ["list's text"]),
 ]
 
 
@@ -130,6 +172,10 @@ class WrongArguments(unittest.TestCase):
                 ("views", [[], [("", "", "")] * 40]),
                 ("record", [([], []), full]),
                 ("records", [[full], [([], [])] * 12, [full] * 12]),
+                ("few ways", [[P], [P, Q], [P] * 3]),
+                ("row", [[], ["tab"] * 40]),
+                ("length", [0, 1, 39, 40]),
+                ("wanted", ["a", "b", "abab", "bbbb"]),
             ]:
                 for value in values if kind in kinds else []:
                     arguments = valid(kinds)
@@ -149,6 +195,19 @@ class WrongArguments(unittest.TestCase):
                     wrong[at] = None
                     with self.subTest(function=function.__name__, kind=kind):
                         self.assertIs(self.raised(function, wrong), KINDS[kind][2])
+
+    def test_too_many_ways_come_behind_what_is_not_valid(self):
+        for function, kinds in FUNCTIONS:
+            if "few ways" in kinds:
+                for sight, many in [(0, 4), (0, 8), (1, 3), (1, 8)]:
+                    arguments = [[P] * many, ["ab"], sight]
+                    with self.subTest(function=function.__name__, sight=sight, many=many):
+                        self.assertIs(self.raised(function, arguments), NotFound)
+                        self.assertIs(self.raised(function, [[P] * many, W, sight]), NotFound)
+                        for at, error in [(0, BadWay), (1, BadWords), (2, BadNumber)]:
+                            wrong = list(arguments)
+                            wrong[at] = None
+                            self.assertIs(self.raised(function, wrong), error)
 
     def test_of_several_the_first(self):
         for function, kinds in FUNCTIONS:
@@ -197,15 +256,20 @@ class KeptArguments(unittest.TestCase):
         for function, kinds in FUNCTIONS:
             for one in [P, Q]:
                 arguments = valid(kinds)
-                arguments[0] = one if kinds[0] == "way" else [one, P, Q]
+                if kinds[0] == "way":
+                    arguments[0] = one
+                if kinds[0] in ["family", "few ways"]:
+                    arguments[0] = [one, P, Q]
                 if "state" in kinds:
                     arguments[2] = ("ab", "", 0, ("ab", "aba", "b"), "")
                 before = deepcopy(arguments)
                 try:
                     function(*arguments)
                 except NotFound:
-                    # With the way Q, which does not show what the way P shows.
-                    self.assertIn(function, [first_row, telling_row, telling_views])
+                    # With Q, which does not show what P shows and can't put each word
+                    # in, or P, which puts each text in as it is.
+                    self.assertIn(
+                        function, [first_row, telling_row, telling_views, saved, first_wrong])
                 with self.subTest(function=function.__name__, way=one):
                     self.assertEqual(arguments, before)
 
@@ -230,6 +294,12 @@ class KeptArguments(unittest.TestCase):
             (telling_row, [P, Q, W, 0]), (least_list, [P, Q, 0]),
             (classes, [[P, Q, P], W, 0]), (telling_table, [[P, Q, P], W, 0]),
             (spoken_classes, [[P, Q, P], W[:2], 0]),
+            (parting_row, [[P, Q, P], W[:2], 0]), (parting_row, [[P, P], W[:2], 0]),
+            (groups, [[P, Q, P], W, 0, ROW]), (groups, [[P, Q, P], W, 1, []]),
+            (alike_groups, [P, W, 0]), (alike_groups, [Q, W, 1]), (row_for, [P, W, ["a"], "aba"]),
+            (never_put, [way(accept="always"), ["aba"]]), (wrongs, [Q, W, "end"]),
+            (parse_row, ["a,tab"]), (parse_row, [""]), (parse_list, ["ab b"]),
+            (all_ways, []), (all_texts, []), (small_lists, []), (all_keys, []),
         ]
         for function, arguments in calls:
             before = function(*arguments)
@@ -248,6 +318,19 @@ class KeptArguments(unittest.TestCase):
         kept = deepcopy(before)
         before[0].append("c")
         self.assertEqual(telling_views(P, Q, W[:2], 0), kept)
+
+    def test_the_lists_of_a_plan_are_new(self):
+        for family in [[P, Q, P], [P, P]]:
+            before = finding_plan(family, W[:2], 0)
+            kept = deepcopy(before)
+            waiting = [before]
+            while waiting:
+                plan = waiting.pop()
+                if plan[0] == "press":
+                    waiting.extend(behind for _, behind in plan[2])
+                plan[-1].clear()
+            self.assertNotEqual(before, kept)
+            self.assertEqual(finding_plan(family, W[:2], 0), kept)
 
     def test_lists_that_are_changed_behind_a_call(self):
         words = list(W)

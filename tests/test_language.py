@@ -2,6 +2,8 @@
 
 import ast
 import inspect
+import subprocess
+import sys
 import unittest
 from importlib import import_module
 from pathlib import Path
@@ -22,6 +24,24 @@ INTERFACE = {
         "same": 4, "telling_row": 4, "least_list": 3, "classes": 3, "telling_table": 3,
     },
     "spoken": {"is_within": 4, "telling_views": 4, "spoken_classes": 3},
+    "finding": {"keys_needed": 3, "finding_plan": 3, "parting_row": 3, "groups": 4},
+    "choosing": {"best_key": 4, "count_same": 5},
+    "kinds": {"alike_groups": 3, "count_kinds": 3},
+    "putting": {"row_for": 4, "never_put": 2, "saved": 2, "costs": 3},
+    "meaning": {"typed": 4, "wrongs": 3, "first_wrong": 3},
+    "desks": {"Desk": 3},
+    "texts": {
+        "format_way": 1, "format_row": 1, "format_list": 1,
+        "parse_way": 1, "parse_row": 1, "parse_list": 1,
+    },
+}
+
+# For each method of a class how many arguments it takes, itself included.
+METHODS = {
+    ("desks", "Desk"): {
+        "__init__": 4, "press": 2, "state": 1, "view": 1, "pressed": 1, "taken_off": 1,
+        "__len__": 1,
+    },
 }
 
 LIBRARY = {"heapq", "math", "itertools", "collections"}
@@ -53,6 +73,22 @@ class Interface(unittest.TestCase):
                     value = getattr(module, function)
                     self.assertEqual(value.__module__, f"fieldoffers.{name}")
                     self.assertEqual(len(inspect.signature(value).parameters), many)
+
+
+    def test_methods_stand_in_their_classes(self):
+        for (name, owner), methods in METHODS.items():
+            members = vars(getattr(import_module(f"fieldoffers.{name}"), owner))
+            for method, many in methods.items():
+                with self.subTest(owner=owner, method=method):
+                    self.assertEqual(len(inspect.signature(members[method]).parameters), many)
+
+    def test_modules_stand_alone(self):
+        # A module may be imported first, whatever it imports itself.
+        for name in INTERFACE:
+            code = f"import fieldoffers.{name}"
+            done = subprocess.run([sys.executable, "-c", code], cwd=PACKAGE.parent)
+            with self.subTest(module=name):
+                self.assertEqual(done.returncode, 0)
 
 
 class Language(unittest.TestCase):
