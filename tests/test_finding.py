@@ -2,6 +2,7 @@
 
 import unittest
 from itertools import combinations, product
+from unittest import mock
 
 from fieldoffers.errors import BadWay, NotFound
 from fieldoffers.finding import finding_plan, groups, keys_needed, parting_row
@@ -284,6 +285,12 @@ class ByHandMadeBlocks(unittest.TestCase):
         blocks = HandMade([0, 1, 2], moves)
         self.assertEqual(first_parting_row(blocks), ["b", "a"])
         self.assertEqual(Search(blocks).needed((0, 1, 2)), 1)
+
+
+    def test_no_row_is_not_found(self):
+        with mock.patch("fieldoffers.finding.first_parting_row", return_value=None):
+            with self.assertRaises(NotFound):
+                parting_row([P, Q], ["ab"], 0)
 
 
 class Groups(unittest.TestCase):

@@ -3,9 +3,12 @@
 import unittest
 from itertools import combinations, product
 
+from fieldoffers.cores import Cores
 from fieldoffers.errors import NotFound
 from fieldoffers.running import views_of
-from fieldoffers.telling import classes, least_list, same, telling_row, telling_table
+from fieldoffers.telling import (
+    classes, first_row_from, least_list, same, telling_row, telling_table,
+)
 from fieldoffers.ways import all_ways
 from fieldoffers.words import small_lists
 from tests.samples import P, Q, W, way
@@ -69,6 +72,17 @@ class Alike(Telling):
         self.assertIs(same(P, P, W, 0), True)
         self.assertIs(same(P, Q, W, 0), False)
         self.assertIs(type(telling_row(P, Q, W, 0)), list)
+
+
+class FromOtherStates(unittest.TestCase):
+    def test_one_way_from_two_cores(self):
+        cores = Cores(way(back="both"), 0)
+        empty = cores.core_of(("", "", 0, ("ab",), ""))
+        quiet = cores.core_of(("a", "", 1, ("ab",), ""))
+        typed = cores.core_of(("a", "", 0, ("ab",), ""))
+        self.assertIsNone(first_row_from(cores, cores, (quiet, quiet)))
+        self.assertEqual(first_row_from(cores, cores, (empty, typed)), ["a"])
+        self.assertEqual(first_row_from(cores, cores, (typed, quiet)), ["tab"])
 
 
 class TellingRow(Telling):
