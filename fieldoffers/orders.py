@@ -1,4 +1,4 @@
-"""The orders of texts, views, view rows and states, as ranks to sort by.
+"""The orders of texts, views and states, as ranks to sort by.
 
 Strings alone would sort "aa" ahead of "b": texts come with the shorter ones
 first, and so does whatever is made of texts.
@@ -26,10 +26,3 @@ def sorted_views(views, sight):
     if sight == 1:
         return sorted(views, key=text_rank)
     return sorted(views, key=texts_rank)
-
-
-def views_rank(views, sight):
-    """Return the rank of a view row: shorter ones first, then by their views."""
-    if sight == 1:
-        return (len(views), texts_rank(views))
-    return (len(views), [texts_rank(view) for view in views])

@@ -3,46 +3,38 @@
 from fieldoffers.checks import check_pair, check_several
 from fieldoffers.errors import NotFound
 from fieldoffers.grouping import grouped
-from fieldoffers.orders import sorted_views, views_rank
-from fieldoffers.states import first_state
-from fieldoffers.steppers import Stepper
+from fieldoffers.machines import Machine
+from fieldoffers.orders import sorted_views
+from fieldoffers.profiles import profile_of
 
 SPOKEN_WORDS = 2
 
 
-def states_by_view(stepper, states):
-    """Return a dict: each view that can be seen next, and the states behind it.
-
-    The states behind a view stand in a tuple, sorted: the same states make the
-    same tuple, by whatever keys they are reached.
-    """
-    behind = {}
-    for state in states:
-        for after, view in stepper.steps(state):
-            if view not in behind:
-                behind[view] = {}
-            behind[view][after] = True
-    return {view: tuple(sorted(behind[view])) for view in behind}
+def of_either(shown, answered):
+    """Return the list of the views that are shown or answered, each once."""
+    return [*shown, *[view for view in answered if view not in shown]]
 
 
-def first_views_outside(mine, its, words):
-    """Return the first of the shortest view rows seen of the one stepper alone, or None.
+def first_views_alone(mine, its, views_of_pair):
+    """Return a tuple: a view row seen of one machine alone, and which; None if there is none.
 
     Pairs of the states in which the two may be come in the order of their view
-    rows, and the views in theirs: so the first view that only the one shows ends
-    the first such view row.
+    rows. A function gives the views to look at from a pair: where they are all
+    views, and in order, what is returned is the first of the shortest view rows.
     """
-    start = ((first_state(words),), (first_state(words),))
+    start = (1, 1)
     rows = {start: []}
     newest = [start]
     while len(newest) > 0:
         found = []
         for pair in newest:
-            shown = states_by_view(mine, pair[0])
-            answered = states_by_view(its, pair[1])
-            for view in sorted_views(list(shown), mine.sight):
+            shown = mine.views_ahead(pair[0])
+            answered = its.views_ahead(pair[1])
+            for view in views_of_pair(shown, answered):
                 if view not in answered:
-                    return [*rows[pair], view]
+                    return ([*rows[pair], view], 0)
+                if view not in shown:
+                    return ([*rows[pair], view], 1)
                 behind = (shown[view], answered[view])
                 if behind not in rows:
                     rows[behind] = [*rows[pair], view]
@@ -57,38 +49,50 @@ def check_few_words(words):
         raise NotFound("this is told for lists of 1 or 2 words alone")
 
 
+def views_alone(one, other, words, sight, views_of_pair):
+    """Return what first_views_alone tells of two ways."""
+    mine = profile_of(one, words)
+    its = profile_of(other, words)
+    if mine == its:
+        return None
+    return first_views_alone(
+        Machine(mine, words, sight), Machine(its, words, sight), views_of_pair)
+
+
 def is_within(one, other, words, sight):
     """Tell whether each view row that is seen of the one way is seen of the other one."""
     check_pair(one, other, words, sight)
     check_few_words(words)
-    return first_views_outside(Stepper(one, sight), Stepper(other, sight), words) is None
+    return views_alone(one, other, words, sight, lambda shown, answered: shown) is None
 
 
 def telling_views(one, other, words, sight):
     """Return the first of the shortest view rows seen of just one way, and of which one."""
     check_pair(one, other, words, sight)
     check_few_words(words)
-    mine = Stepper(one, sight)
-    its = Stepper(other, sight)
-    alone = [(first_views_outside(mine, its, words), 0), (first_views_outside(its, mine, words), 1)]
-    found = [(views, which) for views, which in alone if views is not None]
-    if len(found) == 0:
+    told = views_alone(
+        one, other, words, sight,
+        lambda shown, answered: sorted_views(of_either(shown, answered), sight),
+    )
+    if told is None:
         raise NotFound("the same view rows are seen of the two ways")
-    return min(found, key=lambda told: views_rank(told[0], sight))
-
-
-def spoken_alike(mine, its, words):
-    """Tell whether the same view rows can be seen of two steppers."""
-    if first_views_outside(mine, its, words) is not None:
-        return False
-    return first_views_outside(its, mine, words) is None
+    return told
 
 
 def spoken_classes(family, words, sight):
     """Return the ascending list of the groups of ways of which the same views are seen."""
     check_several(family, words, sight)
     check_few_words(words)
-    steppers = [Stepper(way, sight) for way in family]
-    return grouped(
-        len(family), lambda one, other: spoken_alike(steppers[one], steppers[other], words)
+    profiles = [profile_of(way, words) for way in family]
+    # Ways with one profile are alike: the first of them stands for all.
+    firsts = [profiles.index(profile) for profile in profiles]
+    places = sorted(set(firsts))
+    machines = [Machine(profiles[place], words, sight) for place in places]
+    groups = grouped(
+        len(places),
+        lambda one, other: first_views_alone(machines[one], machines[other], of_either) is None,
     )
+    return [
+        [place for place, first in enumerate(firsts) if places.index(first) in group]
+        for group in groups
+    ]

@@ -31,6 +31,16 @@ def common_beginning(texts):
     return common
 
 
+def chosen_of(choice, texts):
+    """Return what a choice makes of the rests of the fitting words, or of the words whole."""
+    if choice == "common":
+        return common_beginning(texts)
+    if choice == "short":
+        # Of several shortest ones, min returns the first.
+        return min(texts, key=len)
+    return texts[0]
+
+
 def open_offer(way, text, order):
     """Return the offer behind a text if nothing keeps it quiet, "" if there is none."""
     choice, since, accept, again, back, learn = way
@@ -39,12 +49,7 @@ def open_offer(way, text, order):
     rests = [word[len(text):] for word in fitting_words(text, order)]
     if len(rests) == 0:
         return ""
-    if choice == "common":
-        return common_beginning(rests)
-    if choice == "short":
-        # Of several shortest rests, min returns the first.
-        return min(rests, key=len)
-    return rests[0]
+    return chosen_of(choice, rests)
 
 
 def offer_of(way, state):

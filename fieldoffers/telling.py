@@ -4,6 +4,7 @@ from fieldoffers.checks import check_pair, check_several
 from fieldoffers.cores import Cores, cores_by_way
 from fieldoffers.errors import NotFound
 from fieldoffers.grouping import grouped
+from fieldoffers.profiles import profile_of
 from fieldoffers.rows import first_row_to_end
 from fieldoffers.states import check_sight
 from fieldoffers.ways import check_way
@@ -60,17 +61,13 @@ def least_list(one, other, sight):
     check_way(one)
     check_way(other)
     check_sight(sight)
-    mine = Cores(one, sight)
-    its = Cores(other, sight)
-    alike = {}
+    if one == other:
+        return None
     for words in small_lists():
-        start = starts_of(mine, its, words)
         # No way knows one letter from the other: with "a" and "b" swapped, a list
         # that begins with "b" is one that came before, and was found alike.
-        if not words[0].startswith("b") and start not in alike:
-            if first_row_from(mine, its, start) is not None:
-                return words
-            alike[start] = True
+        if not words[0].startswith("b") and profile_of(one, words) != profile_of(other, words):
+            return words
     return None
 
 

@@ -10,7 +10,9 @@ from fieldoffers.spoken import is_within, spoken_classes, telling_views
 from fieldoffers.telling import same
 from fieldoffers.ways import all_ways
 from tests.samples import P, Q, W, way
-from tests.trials import first_view_row, rows_by_views
+from tests.trials import (
+    first_view_row, first_views_of_one, rows_by_views, view_row_place,
+)
 
 DRAWN = [
     P, Q, way(accept="blank"), way(accept="always"), way(back="both"), way(back="offer", learn=1),
@@ -88,6 +90,58 @@ class ByTrial(Spoken):
                         views = views_of(one, words, sight, row)
                         with self.subTest(one=one, other=other, words=words, views=views):
                             self.assertTrue(can_show(other, words, sight, views))
+
+
+# Ways that differ in one item, for lists where that matters, and where it does not.
+NEIGHBOURS = [
+    (("common", 1, "blank", "next", "both", 1), ("common", 1, "always", "next", "both", 1)),
+    (("short", 1, "always", "next", "both", 1), ("short", 1, "always", "stay", "both", 1)),
+    (("first", 1, "tab", "stay", "both", 1), ("first", 1, "tab", "stay", "both", 0)),
+    (("first", 1, "always", "stay", "letter", 1), ("first", 1, "always", "stay", "letter", 0)),
+    (("first", 1, "always", "next", "letter", 1), ("first", 1, "always", "next", "letter", 0)),
+    (("common", 1, "tab", "next", "letter", 1), ("common", 1, "tab", "next", "letter", 0)),
+    (("first", 1, "blank", "next", "offer", 1), ("first", 1, "blank", "next", "both", 1)),
+    (("first", 1, "blank", "next", "offer", 0), ("first", 1, "blank", "next", "letter", 0)),
+    (("short", 1, "tab", "next", "letter", 1), ("first", 1, "tab", "next", "letter", 1)),
+    (("first", 2, "blank", "stay", "offer", 1), ("common", 2, "blank", "stay", "offer", 1)),
+    (("short", 1, "blank", "stay", "both", 1), ("short", 2, "blank", "stay", "both", 1)),
+]
+NEIGHBOUR_LISTS = [
+    ["bba"], ["bba", "ba"], ["ba", "aaa"], ["bab", "aa"], ["aab", "aa"], ["aa", "aaa"],
+    ["bbb", "bba"], ["a", "bab"],
+]
+
+
+class BySetsOfStates(Spoken):
+    """The same answers as from all states, and all texts of up to 4 letters."""
+
+    def test_ways_that_differ_in_one_item(self):
+        for words, sight in product(NEIGHBOUR_LISTS, [0, 1]):
+            for one, other in NEIGHBOURS:
+                self.check_by_sets(one, other, words, sight)
+
+    def test_other_ways(self):
+        for one, other in zip(all_ways()[::29], all_ways()[100::11]):
+            for words, sight in product([["ab", "abb"], ["bab", "baa"]], [0, 1]):
+                self.check_by_sets(one, other, words, sight)
+
+    def check_by_sets(self, one, other, words, sight):
+        rows = [
+            (first_views_of_one(one, other, words, sight), 0),
+            (first_views_of_one(other, one, words, sight), 1),
+        ]
+        with self.subTest(one=one, other=other, words=words, sight=sight):
+            self.assertIs(is_within(one, other, words, sight), rows[0][0] is None)
+            self.assertIs(is_within(other, one, words, sight), rows[1][0] is None)
+            told = [(views, which) for views, which in rows if views is not None]
+            if told:
+                first = min(told, key=lambda row: view_row_place(row[0]))
+                self.assertEqual(telling_views(one, other, words, sight), first)
+                self.assertEqual(spoken_classes([one, other, one], words, sight), [[0, 2], [1]])
+            else:
+                with self.assertRaises(NotFound):
+                    telling_views(one, other, words, sight)
+                self.assertEqual(spoken_classes([one, other, one], words, sight), [[0, 1, 2]])
 
 
 class IsWithin(Spoken):

@@ -270,3 +270,32 @@ def fewest_keys_from(one, words, state):
         met.update(newest)
     fewest.pop("", None)
     return fewest
+
+
+def states_by_view(steps, states):
+    """Give for each view that can be seen next the states behind it."""
+    behind = {}
+    for state in states:
+        for after, view in steps[state]:
+            behind.setdefault(view, set()).add(after)
+    return {view: frozenset(after) for view, after in behind.items()}
+
+
+def first_views_of_one(one, other, words, sight):
+    """Give the first of the shortest view rows seen of the one way alone, or None.
+
+    Goes through the sets of all states in which the two ways may be.
+    """
+    mine = steps_of(one, words, sight)
+    its = steps_of(other, words, sight)
+    first = frozenset([("", "", 0, tuple(words), "")])
+    rows = {(first, first): []}
+    for states, others in iter_growing(rows):
+        row = rows[states, others]
+        shown = states_by_view(mine, states)
+        answered = states_by_view(its, others)
+        for view in sorted(shown, key=lambda view: view_row_place([view])):
+            if view not in answered:
+                return [*row, view]
+            rows.setdefault((shown[view], answered[view]), [*row, view])
+    return None
